@@ -1,0 +1,1 @@
+"""Multiplied out: figures whose points are sums of products of letters."""

@@ -1,0 +1,94 @@
+"""The figure: points drawn step by step, and what is answered to the calls on it.
+
+A point is its three sums, each letter's reach in it, and how heavy it is. The
+figure is the object that the calls are on. answers gives, for each call, how many
+numbers are answered, and then these.
+"""
+
+from drawnsums.limits import MOST_HEAVY, MOST_LETTERS, MOST_PLACES, MOST_POINTS, OWN_LETTERS
+from drawnsums.limits import count_of_points, heavy_by, numbers_fit, places, reach_by
+from drawnsums.reading import BEGIN, FIRST_STEP, LAST_STEP, read_calls
+from drawnsums.steps import drawn
+from drawnsums.sums import constant, is_nought, letter
+
+NOT_BEGUN = -61
+NOT_THERE = -2
+DOES_NOT_FIT = -22
+FULL = -28
+TOO_MUCH = -75
+NEVER_THERE = -33
+
+
+class Point:
+    def __init__(self, xyw, reach, heavy):
+        self.x = xyw[0]
+        self.y = xyw[1]
+        self.w = xyw[2]
+        self.reach = reach
+        self.heavy = heavy
+
+
+class Figure:
+    def __init__(self):
+        self.begun = False
+        self.points = []
+        self.letters = 0
+
+    def answer(self, call):
+        if call.number == BEGIN:
+            return [self.begin()]
+        if not self.begun:
+            return [NOT_BEGUN]
+        if FIRST_STEP <= call.number <= LAST_STEP:
+            return [self.draw(call.number - FIRST_STEP, call.told)]
+        raise NotImplementedError("the calls from out on are not there yet")
+
+    def begin(self):
+        self.begun = True
+        self.points = []
+        self.letters = 0
+        return 0
+
+    def draw(self, kind, told):
+        count = count_of_points(kind)
+        if not all([self.has_point(p) for p in told[:count]]):
+            return NOT_THERE
+        if not numbers_fit(kind, told[count:]):
+            return DOES_NOT_FIT
+        if not self.has_room(kind):
+            return FULL
+        sources = [self.points[p] for p in told[:count]]
+        reach = reach_by(kind, sources, self.letters)
+        heavy = heavy_by(kind, sources)
+        # This comes ahead of multiplying out: it is what keeps that short.
+        if heavy > MOST_HEAVY or places(reach) > MOST_PLACES:
+            return TOO_MUCH
+        numbers = [constant(number) for number in told[count:]]
+        xyw = drawn(kind, sources + numbers + self.next_letters(kind))
+        return self.keep(kind, Point(xyw, reach, heavy))
+
+    def has_point(self, p):
+        return 0 <= p < len(self.points)
+
+    def has_room(self, kind):
+        return len(self.points) < MOST_POINTS and self.letters + OWN_LETTERS[kind] <= MOST_LETTERS
+
+    def next_letters(self, kind):
+        return [letter(index) for index in range(self.letters, self.letters + OWN_LETTERS[kind])]
+
+    def keep(self, kind, point):
+        if is_nought(point.w):
+            return NEVER_THERE
+        self.points.append(point)
+        self.letters += OWN_LETTERS[kind]
+        return len(self.points) - 1
+
+
+def answers(calls):
+    figure = Figure()
+    given = []
+    for call in read_calls(calls):
+        answered = figure.answer(call)
+        given.append(len(answered))
+        given.extend(answered)
+    return given
