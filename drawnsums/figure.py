@@ -1,26 +1,24 @@
 """The figure: points drawn step by step, and what is answered to the calls on it.
 
-A point is its three sums, each letter's reach in it, and how heavy it is. The
-figure is the object that the calls are on. answers gives, for each call, how many
-numbers are answered, and then these.
+A point is its step (the kind, and what was told with it), its three sums, each
+letter's reach in it, and how heavy it is. The figure is the object that the calls
+are on. answers gives, for each call, how many numbers are answered, and then these.
 """
 
+from drawnsums.asking import asked
 from drawnsums.limits import MOST_HEAVY, MOST_LETTERS, MOST_PLACES, MOST_POINTS, OWN_LETTERS
 from drawnsums.limits import count_of_points, heavy_by, numbers_fit, places, reach_by
-from drawnsums.reading import BEGIN, FIRST_STEP, LAST_STEP, read_calls
+from drawnsums.looking import looked_at
+from drawnsums.reading import BEGIN, COMMON, FIRST_STEP, LAST_STEP, OUT, read_calls
+from drawnsums.refusals import DOES_NOT_FIT, FULL, NEVER_THERE, NOT_BEGUN, NOT_THERE, TOO_MUCH
 from drawnsums.steps import drawn
 from drawnsums.sums import constant, is_nought, letter
 
-NOT_BEGUN = -61
-NOT_THERE = -2
-DOES_NOT_FIT = -22
-FULL = -28
-TOO_MUCH = -75
-NEVER_THERE = -33
-
 
 class Point:
-    def __init__(self, xyw, reach, heavy):
+    def __init__(self, kind, told, xyw, reach, heavy):
+        self.kind = kind
+        self.told = told
         self.x = xyw[0]
         self.y = xyw[1]
         self.w = xyw[2]
@@ -39,9 +37,13 @@ class Figure:
             return [self.begin()]
         if not self.begun:
             return [NOT_BEGUN]
-        if FIRST_STEP <= call.number <= LAST_STEP:
+        if call.number <= LAST_STEP:
             return [self.draw(call.number - FIRST_STEP, call.told)]
-        raise NotImplementedError("the calls from out on are not there yet")
+        if call.number == OUT:
+            return [self.take_out()]
+        if call.number <= COMMON:
+            return looked_at(self, call)
+        return asked(self, call)
 
     def begin(self):
         self.begun = True
@@ -65,10 +67,13 @@ class Figure:
             return TOO_MUCH
         numbers = [constant(number) for number in told[count:]]
         xyw = drawn(kind, sources + numbers + self.next_letters(kind))
-        return self.keep(kind, Point(xyw, reach, heavy))
+        return self.keep(Point(kind, told, xyw, reach, heavy))
 
     def has_point(self, p):
         return 0 <= p < len(self.points)
+
+    def has_letter(self, index):
+        return 0 <= index < self.letters
 
     def has_room(self, kind):
         return len(self.points) < MOST_POINTS and self.letters + OWN_LETTERS[kind] <= MOST_LETTERS
@@ -76,12 +81,19 @@ class Figure:
     def next_letters(self, kind):
         return [letter(index) for index in range(self.letters, self.letters + OWN_LETTERS[kind])]
 
-    def keep(self, kind, point):
+    def keep(self, point):
         if is_nought(point.w):
             return NEVER_THERE
         self.points.append(point)
-        self.letters += OWN_LETTERS[kind]
+        self.letters += OWN_LETTERS[point.kind]
         return len(self.points) - 1
+
+    def take_out(self):
+        if len(self.points) == 0:
+            return NOT_THERE
+        point = self.points.pop()
+        self.letters -= OWN_LETTERS[point.kind]
+        return len(self.points)
 
 
 def answers(calls):

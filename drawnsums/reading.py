@@ -7,6 +7,18 @@ in the list the next call is, behind it.
 BEGIN = 0
 FIRST_STEP = 1
 LAST_STEP = 13
+OUT = 14
+POINTS = 15
+STEP = 16
+NUMBERS = 17
+DEGREE = 18
+COMMON = 19
+HOLDS = 20
+RESTS = 21
+REST = 22
+POWER = 23
+AT = 24
+IS = 25
 
 # By a call's number, 0 to 26: how many whole numbers it has, and how many rows.
 WHOLE_NUMBERS = (0, 2, 0, 2, 4, 3, 4, 3, 3, 2, 3, 3, 2, 3, 0, 0, 1, 2, 2, 1, 1, 1, 2, 2, 2, 2, 4)

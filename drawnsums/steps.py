@@ -5,17 +5,12 @@ n are handed in as sums, too. The last def, drawn, is handed a step's points, th
 its m and n, then its letters.
 
 What the steps share:
-- added_products is f g + h k, crossed_products is f g - h k;
-- way is from a to b, ab1 and ab2; line is p, q, r; area and square are those of
-  points;
-- beside is p cx + q cy + r cw, which is nought where c is on the line;
-- matched is the first numbers of two ways (or lines), multiplied, and the second
-  ones, together;
 - moved is point a with its numbers taken scale times, and then moved;
 - dropped is point c, moved square to the line of a and b by a share of what it is
   off that line.
 """
 
+from drawnsums.lines import added_products, area, beside, line, matched, meeting, square, way
 from drawnsums.sums import constant, less, plus, times
 
 FIXED = 0
@@ -31,42 +26,6 @@ CENTRE = 9
 SECOND = 10
 ROUND = 11
 INVERSE = 12
-
-
-def added_products(f, g, h, k):
-    return plus(times(f, g), times(h, k))
-
-
-def crossed_products(f, g, h, k):
-    return less(times(f, g), times(h, k))
-
-
-def way(a, b):
-    return (crossed_products(b.x, a.w, a.x, b.w), crossed_products(b.y, a.w, a.y, b.w))
-
-
-def line(a, b):
-    return (
-        crossed_products(a.y, b.w, b.y, a.w),
-        crossed_products(b.x, a.w, a.x, b.w),
-        crossed_products(a.x, b.y, b.x, a.y),
-    )
-
-
-def beside(pqr, c):
-    return plus(added_products(pqr[0], c.x, pqr[1], c.y), times(pqr[2], c.w))
-
-
-def area(a, b, c):
-    return beside(line(b, c), a)
-
-
-def square(a):
-    return added_products(a.x, a.x, a.y, a.y)
-
-
-def matched(first, other):
-    return added_products(first[0], other[0], first[1], other[1])
 
 
 def moved(a, scale, across, up):
@@ -96,13 +55,7 @@ def along(a, b, c):
 
 
 def meet(a, b, c, d):
-    ab = line(a, b)
-    cd = line(c, d)
-    return (
-        crossed_products(ab[1], cd[2], cd[1], ab[2]),
-        crossed_products(ab[2], cd[0], cd[2], ab[0]),
-        crossed_products(ab[0], cd[1], cd[0], ab[1]),
-    )
+    return meeting(line(a, b), line(c, d))
 
 
 def foot(c, a, b):

@@ -115,6 +115,33 @@ class Language(unittest.TestCase):
                 if isinstance(node.func, ast.Attribute):
                     self.assertIn(node.func.attr, OWN_METHODS + own)
 
+    def test_keywords(self):
+        for file in FILES:
+            for node in nodes(file, ast.Call):
+                known = {"sorted": ("key", "reverse"), "max": ("key", "default"), "min": ("key", "default")}
+                for keyword in node.keywords:
+                    self.assertIn(keyword.arg, known.get(getattr(node.func, "id", ""), ()))
+
+    def test_each_name_is_bound_once_at_a_files_top(self):
+        for file in FILES:
+            body = ast.parse(file.read_text()).body
+            found = [part.name for part in body if isinstance(part, (ast.FunctionDef, ast.ClassDef))]
+            found += [part.targets[0].id for part in body if isinstance(part, ast.Assign)]
+            found += [name.name for part in body if isinstance(part, ast.ImportFrom) for name in part.names]
+            self.assertEqual(len(found), len(set(found)))
+            for part in body:
+                if isinstance(part, ast.Assign):
+                    self.assertIsInstance(part.value, (ast.Constant, ast.Tuple, ast.UnaryOp))
+
+    def test_no_two_files_draw_from_one_another(self):
+        drawn = {file.stem: {node.module.removeprefix("drawnsums.") for node in nodes(file, ast.ImportFrom)}
+                 for file in FILES}
+        while drawn:
+            free = [stem for stem, sources in drawn.items() if not sources & set(drawn)]
+            self.assertNotEqual(free, [])
+            for stem in free:
+                drawn.pop(stem)
+
     def test_no_local_is_called_like_an_import_or_class(self):
         for file in FILES:
             top = [name.name for node in nodes(file, ast.ImportFrom) for name in node.names]

@@ -4,7 +4,7 @@ import unittest
 
 from drawnsums.sums import terms
 from tests.helper import (ALONG, BEGIN, CENTRE, FIXED, FOOT, FREE, INVERSE, MEET, MIRROR, ON, OWN_HEAVY, PART,
-                          POINTS_TOLD, REACH, ROUND, SECOND, TURN, Plain, ask, drawn)
+                          POINTS_TOLD, REACH, ROUND, SECOND, TURN, Plain, ask, drawn, shuffled_numbers)
 
 NUMBERS = {FIXED: [0, 0], PART: [1, 2]}
 CORNERS = [[FIXED, 0, 0], [FIXED, 7, 0], [FIXED, 0, 5], [FIXED, 4, 9]]
@@ -251,7 +251,7 @@ class WhichOfSeveral(unittest.TestCase):
 
 class NothingChanges(unittest.TestCase):
     def state(self, figure):
-        sums = [(terms(p.x), terms(p.y), terms(p.w), p.reach, p.heavy) for p in figure.points]
+        sums = [(p.kind, p.told, terms(p.x), terms(p.y), terms(p.w), p.reach, p.heavy) for p in figure.points]
         return sums, figure.letters, figure.begun
 
     def test_what_comes_behind_is_as_if_it_had_not_been_asked(self):
@@ -276,13 +276,6 @@ class NothingChanges(unittest.TestCase):
         start = [[FREE], [TURN, 0, 0], [TURN, 1, 1], [TURN, 2, 2]]
         self.assertEqual(last(*start, [ON, 3, 3]), -75)
         self.assertEqual(self.state(drawn(*start, [ON, 3, 3], [ON, 0, 1])), self.state(drawn(*start, [ON, 0, 1])))
-
-
-def shuffled_numbers(seed):
-    """The same row of numbers for the same seed, each below 2 ** 16."""
-    while True:
-        seed = (seed * 1103515245 + 12345) % 2 ** 31
-        yield seed >> 15
 
 
 class ManyFigures(unittest.TestCase):

@@ -2,7 +2,8 @@
 
 import unittest
 
-from drawnsums.sums import constant, is_nought, less, letter, plus, terms, times
+from drawnsums.sums import (comes_to, common_in, constant, flat_terms, is_nought, less, letter, most_in, plus,
+                            power_of, put, terms, times)
 
 
 def all_letters():
@@ -63,6 +64,45 @@ class Sums(unittest.TestCase):
         less(f, f)
         times(f, g)
         self.assertEqual((terms(f), terms(g)), before)
+        put(f, 0, 3)
+        comes_to(f, [5])
+        self.assertEqual((terms(f), terms(g)), before)
+
+
+class Looking(unittest.TestCase):
+    def setUp(self):
+        s, t = all_letters()[:2]
+        # 6 s s t - 10 t + 4
+        self.f = plus(less(times(constant(6), times(s, times(s, t))), times(constant(10), t)), constant(4))
+
+    def test_terms_one_behind_another(self):
+        self.assertEqual(flat_terms(self.f), [6, 2, 1, 0, 0, -10, 0, 1, 0, 0, 4, 0, 0, 0, 0])
+        self.assertEqual(flat_terms(constant(0)), [])
+
+    def test_a_letters_power(self):
+        self.assertEqual([power_of(self.f, index) for index in range(4)], [2, 1, 0, 0])
+        self.assertEqual(power_of(constant(0), 0), 0)
+
+    def test_the_greatest_size(self):
+        self.assertEqual(most_in(self.f), 10)
+        self.assertEqual(most_in(constant(0)), 0)
+
+    def test_what_divides_all(self):
+        self.assertEqual(common_in([self.f]), 2)
+        self.assertEqual(common_in([constant(-12), constant(0), constant(18)]), 6)
+        self.assertEqual(common_in([self.f, constant(3)]), 1)
+
+    def test_a_letter_put_to_a_number(self):
+        self.assertEqual(terms(put(self.f, 0, -1)), [(-4, 0, 1, 0, 0), (4, 0, 0, 0, 0)])
+        self.assertEqual(terms(put(self.f, 1, 0)), [(4, 0, 0, 0, 0)])
+        self.assertEqual(terms(put(self.f, 2, 5)), terms(self.f))
+        self.assertTrue(is_nought(put(less(letter(3), constant(7)), 3, 7)))
+
+    def test_what_it_comes_to(self):
+        self.assertEqual(comes_to(self.f, [3, -2]), 6 * 9 * -2 + 20 + 4)
+        self.assertEqual(comes_to(self.f, [0, 0, 5, 5]), 4)
+        self.assertEqual(comes_to(constant(-3), []), -3)
+        self.assertEqual(comes_to(constant(0), []), 0)
 
 
 if __name__ == "__main__":
